@@ -1,0 +1,1 @@
+"""Climborsink: craft that come near one another are told to climb or to sink, in agreement."""
