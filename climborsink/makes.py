@@ -4,6 +4,11 @@ from climborsink.kinds import is_tuple_of, is_whole_within
 
 GREATEST_MOST = 9
 GREATEST_CHANGE = 4
+FOUR_WORDS = ("climb", "free", "hold", "sink")
+
+
+def is_word(thing):
+    return thing in FOUR_WORDS
 
 
 def is_make(thing):

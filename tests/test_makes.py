@@ -4,9 +4,9 @@ import copy
 import unittest
 
 from climborsink.makes import is_make, may_go, rates_from
+from tests.oracle import FOUR_WORDS as WORDS
+from tests.oracle import let_by, rates_of
 from tests.things import OTHER_THINGS, WHOLE_NUMBERS
-
-WORDS = ("climb", "free", "hold", "sink")
 
 ALL_MAKES = tuple(
     (most, change, haste, goal)
@@ -15,24 +15,6 @@ ALL_MAKES = tuple(
     for haste in range(1, change + 1)
     for goal in range(1, most + 1)
 )
-
-
-def rates_of(make):
-    return range(-make[0], make[0] + 1)
-
-
-def let_by(make, word, rate, other):
-    """Point 4, word for word."""
-    most, change, haste, goal = make
-    if other not in range(-most, most + 1) or abs(other - rate) > change:
-        return False
-    if word == "climb":
-        return not other < min(rate + haste, goal)
-    if word == "sink":
-        return not other > max(rate - haste, -goal)
-    if word == "hold":
-        return other == 0 or abs(rate) - abs(other) >= haste
-    return True
 
 
 class IsMake(unittest.TestCase):

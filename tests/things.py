@@ -17,3 +17,13 @@ OTHER_THINGS = (
 )
 
 WHOLE_NUMBERS = (0, 1, -1, 2, 9, 10, 999999999, -999999999)
+
+
+def put_otherwise(whole, thing):
+    """The whole with this thing in the place of each of its parts, one at a time, however deep."""
+    found = [thing]
+    if isinstance(whole, tuple):
+        for place, part in enumerate(whole):
+            found += [
+                whole[:place] + (bent,) + whole[place + 1:] for bent in put_otherwise(part, thing)]
+    return found

@@ -1,0 +1,66 @@
+"""The interface: names, arguments and their defaults, as far as they have been built."""
+
+import importlib
+import inspect
+import unittest
+
+from climborsink import courses, dealing, pairs, tables
+
+FUNCTIONS = {
+    "makes": ("is_make(thing)", "may_go(make, word, rate, other)", "rates_from(make, word, rate)"),
+    "courses": (
+        "is_course(thing)", "is_flight(thing)", "turned(course, word, *, limit=2)", "modes_at(course, step)",
+        "is_motion(flight, thing)", "heights_of(flight, motion)"),
+    "tables": (
+        "table(flight, *, steps)", "stands(flight, thing, *, steps)", "reach(rows)",
+        "motion_to(flight, *, step, lowest=True)"),
+    "pairs": ("gap(upper, lower, *, window)", "shown(upper, lower, *, window, miss=1)"),
+    "dealing": (
+        "dealt(flight, word, *, late=2)", "room(flights, words, *, window, late=2)",
+        "best(flights, *, window, late=2)", "order_of(flights, words, *, window, late=2)",
+        "parting(flights, *, window, late=2, miss=1)"),
+}
+
+VALUES = {
+    "courses": {"LATE": 2},
+    "pairs": {"MISS": 1},
+    "dealing": {"WORDS": ("climb", "hold", "sink")},
+}
+
+
+class Interface(unittest.TestCase):
+    def test_functions(self):
+        for module, signatures in FUNCTIONS.items():
+            found = importlib.import_module(f"climborsink.{module}")
+            for signature in signatures:
+                name = signature.partition("(")[0]
+                function = getattr(found, name)
+                self.assertEqual(f"{name}{inspect.signature(function)}", signature)
+                self.assertEqual(function.__module__, f"climborsink.{module}")
+
+    def test_values(self):
+        for module, values in VALUES.items():
+            found = importlib.import_module(f"climborsink.{module}")
+            for name, due in values.items():
+                told = getattr(found, name)
+                self.assertEqual((type(told), told), (type(due), due))
+
+    def test_no_error_somewhat_beyond_the_bounds(self):
+        flight = ((9, 4, 1, 5), 10 ** 10, 0, ("free", (("free", 12), ("hold", 12), ("free", 12))))
+        self.assertEqual(courses.turned(("free", ()), "climb", limit=13), ("free", (("climb", 13),)))
+        self.assertEqual(courses.modes_at(flight[3], 30), (3, 3))
+        self.assertEqual(len(courses.heights_of(flight, (0,) * 30)), 31)
+        self.assertEqual(len(tables.table(flight, steps=30)), 31)
+        self.assertEqual(len(tables.motion_to(flight, step=30)), 30)
+        self.assertEqual(pairs.shown(flight, flight, window=(0, 30), miss=0)[0], "broken")
+        # Behind three turns, and below their limits.
+        self.assertEqual(dealing.dealt(flight, "climb", late=5)[3][1], flight[3][1] + (("climb", 5),))
+        self.assertLess(dealing.room((flight, flight), ("climb", "sink"), window=(1, 26), late=5), 0)
+        level = tuple((flight[0], height, 0, ("hold", ())) for height in (1, 2, 3, 4, 5))
+        self.assertEqual(dealing.best(level, window=(1, 3), late=14)[1], 1)
+        self.assertEqual(dealing.parting(level, window=(1, 3), late=14, miss=0)[0], "dealt")
+        self.assertEqual(dealing.parting((flight, flight), window=(1, 3), late=14, miss=-1000)[0], "dealt")
+
+
+if __name__ == "__main__":
+    unittest.main()
