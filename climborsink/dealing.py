@@ -2,9 +2,15 @@
 
 from climborsink.courses import LATE, with_turn
 from climborsink.errors import NoOrder
+from climborsink.kinds import is_tuple_of
 from climborsink.pairs import MISS, chart, charts_break, charts_gap
 
 WORDS = ("climb", "hold", "sink")
+
+
+def are_words(thing, many):
+    """Whether any thing is words to deal to so many craft."""
+    return is_tuple_of(thing, many) and all([word in WORDS for word in thing])
 
 
 def dealt(flight, word, *, late=LATE):

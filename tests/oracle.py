@@ -1,4 +1,4 @@
-"""Points 4 to 11 of the document, word for word and by plain search, to look at what the program tells.
+"""Points 4 to 12 of the document, word for word and by plain search, to look at what the program tells.
 
 Nothing here is imported from the program.
 """
@@ -377,3 +377,12 @@ def is_no_dealing(flights, window, late, miss, paper):
         any((i, j, words[i], words[j]) in shown for i, j in itertools.combinations(range(len(flights)), 2))
         for words in all_words(len(flights))
     )
+
+
+# Point 12.
+
+def turn_about_by_words(flights, window, held, late):
+    staying = room_of_reaches([long_reach(flight, window[1]) for flight in flights], window)
+    holding = [dealt_by_words(flight, "hold", held) for flight in flights]
+    words, turning = best_by_words(holding, window, late)
+    return ("turn", words, turning) if turning > staying else ("stay", staying)

@@ -19,6 +19,20 @@ FUNCTIONS = {
         "dealt(flight, word, *, late=2)", "room(flights, words, *, window, late=2)",
         "best(flights, *, window, late=2)", "order_of(flights, words, *, window, late=2)",
         "parting(flights, *, window, late=2, miss=1)"),
+    "turning": ("turn_about(flights, *, window, held=2, late=4)",),
+}
+
+# Each class with the arguments that make it and its methods; its own ones, not those of a class above.
+CLASSES = {
+    "post": {
+        "Post()": (
+            "send(self, letter)", "carry(self, number)", "lose(self, number)", "double(self, number)",
+            "under_way(self)", "__eq__(self, other)", "__len__(self)")},
+    "chief": {
+        "Chief(many)": (
+            "turn(self)", "phase(self)", "word(self)", "agreed(self)", "deal(self, words)", "ask(self)",
+            "clear(self)", "letters(self)", "hear(self, letter)"),
+        "Follower(place)": ("turn(self)", "word(self)", "hear(self, letter)")},
 }
 
 VALUES = {
@@ -37,6 +51,18 @@ class Interface(unittest.TestCase):
                 function = getattr(found, name)
                 self.assertEqual(f"{name}{inspect.signature(function)}", signature)
                 self.assertEqual(function.__module__, f"climborsink.{module}")
+
+    def test_classes(self):
+        for module, classes in CLASSES.items():
+            found = importlib.import_module(f"climborsink.{module}")
+            for signature, methods in classes.items():
+                name = signature.partition("(")[0]
+                made = getattr(found, name)
+                self.assertEqual(f"{name}{inspect.signature(made)}", signature)
+                self.assertEqual(made.__module__, f"climborsink.{module}")
+                for method in methods:
+                    own = vars(made)[method.partition("(")[0]]
+                    self.assertEqual(f"{own.__name__}{inspect.signature(own)}", method)
 
     def test_values(self):
         for module, values in VALUES.items():

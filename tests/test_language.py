@@ -1,4 +1,4 @@
-"""Some rules of the language that a test sees at once: files, sizes, signs, words, imports, names, calls."""
+"""Some rules of the language that a test sees at once: files, sizes, signs, words, imports, names, classes."""
 
 import ast
 import builtins
@@ -21,6 +21,20 @@ ALLOWED_BUILTINS = set(
 
 BARRED_NODES = (
     ast.AsyncFunctionDef, ast.AsyncFor, ast.AsyncWith, ast.Await, ast.Global, ast.GeneratorExp, ast.AnnAssign)
+
+BUILTIN_METHODS = set(
+    "append clear copy count endswith extend find get index insert isalnum isalpha isdigit islower isspace isupper"
+    " items join keys ljust lower lstrip partition pop remove replace reverse rfind rjust rpartition rsplit rstrip"
+    " setdefault split splitlines startswith strip update upper values zfill bit_length title capitalize swapcase"
+    " casefold center expandtabs removeprefix removesuffix rindex isascii isdecimal isnumeric istitle isidentifier"
+    " isprintable add discard".split())
+
+FREE_ATTRIBUTES = set("count index title find get join lower upper split strip copy add".split())
+
+DOUBLE_UNDERSCORES = {"__init__", "__eq__", "__repr__", "__str__", "__len__"}
+
+# What the names of builtin values are: no method and no attribute is called so, but those told in L26.
+TAKEN = {name for kind in (str, int, list, dict, set, bytes) for name in dir(kind) if not name.startswith("__")}
 
 
 def bound_names(tree):
@@ -121,6 +135,103 @@ class Language(unittest.TestCase):
             self.assertEqual(nodes_of(path, ast.Div), [], path)
             for node in nodes_of(path, ast.Constant):
                 self.assertNotIsInstance(node.value, (float, complex), path)
+
+
+def all_nodes(kinds):
+    return [node for path in FILES for node in nodes_of(path, kinds)]
+
+
+def methods_of(made):
+    return [node for node in made.body if isinstance(node, ast.FunctionDef)]
+
+
+def all_methods():
+    return [method for made in all_nodes(ast.ClassDef) for method in methods_of(made)]
+
+
+class LanguageOfClasses(unittest.TestCase):
+    def attributes(self, kind):
+        return {node.attr for node in all_nodes(ast.Attribute) if isinstance(node.ctx, kind)}
+
+    def called_attributes(self):
+        return {node.func.attr for node in all_nodes(ast.Call) if isinstance(node.func, ast.Attribute)}
+
+    def test_a_class_has_a_docstring_and_methods(self):
+        for made in all_nodes(ast.ClassDef):
+            self.assertEqual((made.decorator_list, made.keywords), ([], []))
+            for node in made.body:
+                self.assertIsInstance(node, (ast.FunctionDef, ast.Expr), made.name)
+            names = [method.name for method in methods_of(made)]
+            self.assertEqual(len(names), len(set(names)), made.name)
+
+    def test_names_of_methods_and_attributes(self):
+        methods = {method.name for method in all_methods()}
+        stored = self.attributes(ast.Store)
+        self.assertEqual(methods & stored, set())
+        for name in methods:
+            self.assertTrue(name in DOUBLE_UNDERSCORES or not name.startswith("_"), name)
+            self.assertTrue(name in BUILTIN_METHODS or name not in TAKEN, name)
+        for name in stored:
+            self.assertTrue(not name.startswith("_") and (name in FREE_ATTRIBUTES or name not in TAKEN), name)
+
+    def test_what_is_read_was_assigned_and_what_is_called_is_a_method(self):
+        methods = {method.name for method in all_methods()}
+        stored, called = self.attributes(ast.Store), self.called_attributes()
+        self.assertLessEqual(called, methods | BUILTIN_METHODS)
+        self.assertLessEqual(self.attributes(ast.Load), stored | called)
+
+    def test_methods_with_names_of_builtin_ones_are_called_without_keywords(self):
+        for node in all_nodes(ast.Call):
+            if isinstance(node.func, ast.Attribute) and node.func.attr in BUILTIN_METHODS:
+                self.assertEqual(node.keywords, [], node.func.attr)
+
+    def test_what_a_finally_holds(self):
+        for node in all_nodes(ast.Try):
+            for kept in node.finalbody:
+                self.assertIsInstance(kept, (ast.Assign, ast.AugAssign))
+                for part in ast.walk(kept):
+                    self.assertNotIsInstance(part, (ast.Call, ast.Subscript, ast.UnaryOp, ast.Compare))
+
+    def test_what_is_caught(self):
+        own = {made.name for made in all_nodes(ast.ClassDef)}
+        for node in all_nodes(ast.ExceptHandler):
+            self.assertIsNotNone(node.type)
+            caught = node.type.elts if isinstance(node.type, ast.Tuple) else [node.type]
+            for part in caught:
+                self.assertIn(part.id, own)
+
+    def test_what_is_raised_is_made_on_the_spot(self):
+        own = {made.name for made in all_nodes(ast.ClassDef)}
+        for node in all_nodes(ast.Raise):
+            self.assertIsInstance(node.exc, ast.Call)
+            self.assertIn(node.exc.func.id, own)
+
+    def test_double_underscore_methods_change_nothing(self):
+        for method in all_methods():
+            if method.name in DOUBLE_UNDERSCORES - {"__init__"}:
+                for node in ast.walk(method):
+                    self.assertNotIsInstance(node, (ast.Assign, ast.AugAssign, ast.Delete), method.name)
+                self.assertIsInstance(method.body[-1], ast.Return)
+
+    def test_len_str_and_repr_return_what_they_may(self):
+        starts = {"__len__": ("len(",), "__str__": ("' '.join(", "f'"), "__repr__": ("f'",)}
+        for method in all_methods():
+            for node in ast.walk(method):
+                if method.name in starts and isinstance(node, ast.Return):
+                    self.assertTrue(ast.unparse(node.value).startswith(starts[method.name]), ast.unparse(node))
+
+    def test_classes_are_called_or_asked_for_alone(self):
+        own = {made.name for made in all_nodes(ast.ClassDef)}
+        named = [node for node in all_nodes(ast.Name) if node.id in own]
+        fit = [node.func for node in all_nodes(ast.Call) if isinstance(node.func, ast.Name) and node.func.id in own]
+        fit += [
+            node.args[1] for node in all_nodes(ast.Call)
+            if isinstance(node.func, ast.Name) and node.func.id == "isinstance"
+            and isinstance(node.args[1], ast.Name) and node.args[1].id in own]
+        caught = [
+            part for node in all_nodes(ast.ExceptHandler) for part in ast.walk(node.type)
+            if isinstance(part, ast.Name)]
+        self.assertEqual(len(named), len(fit) + len(caught))
 
 
 if __name__ == "__main__":
