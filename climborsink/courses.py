@@ -10,11 +10,15 @@ GREATEST_LIMIT = 12
 MOST_STEPS = 24
 
 
+def is_limit(thing):
+    return is_whole_within(thing, 0, GREATEST_LIMIT)
+
+
 def is_turn(thing):
     if not is_tuple_of(thing, 2):
         return False
     word, limit = thing
-    return is_word(word) and is_whole_within(limit, 0, GREATEST_LIMIT)
+    return is_word(word) and is_limit(limit)
 
 
 def are_turns(thing):

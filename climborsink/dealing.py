@@ -6,6 +6,13 @@ from climborsink.kinds import is_tuple_of
 from climborsink.pairs import MISS, chart, charts_break, charts_gap
 
 WORDS = ("climb", "hold", "sink")
+FEWEST_CRAFT = 2
+MOST_CRAFT = 4
+
+
+def is_tuple_for_craft(thing):
+    """Whether any thing is a tuple with a part for each of two to four craft."""
+    return isinstance(thing, tuple) and FEWEST_CRAFT <= len(thing) <= MOST_CRAFT
 
 
 def are_words(thing, many):

@@ -25,3 +25,12 @@ def own_copy(thing):
     if isinstance(thing, tuple):
         return tuple([own_copy(part) for part in thing])
     return thing
+
+
+def is_same(told, thing):
+    """Whether any thing is what was told: texts, whole numbers, and tuples of these, no truth for a number."""
+    if isinstance(told, tuple):
+        return is_tuple_of(thing, len(told)) and all([is_same(part, other) for part, other in zip(told, thing)])
+    if is_whole(told):
+        return is_whole(thing) and told == thing
+    return is_text(thing) and told == thing

@@ -1,14 +1,32 @@
 """Two craft: whether the one stays above the other through a window, shown either way."""
 
+from climborsink.courses import MOST_STEPS
+from climborsink.kinds import is_tuple_of, is_whole_within
 from climborsink.tables import motion_in, reach, table
 
 MISS = 1
+GREATEST_MISS = 1000000
+
+
+def is_window(thing):
+    if not is_tuple_of(thing, 2):
+        return False
+    first, last = thing
+    return is_whole_within(last, 1, MOST_STEPS) and is_whole_within(first, 1, last)
+
+
+def is_miss(thing):
+    return is_whole_within(thing, 1, GREATEST_MISS)
+
+
+def chart_of(flight, rows):
+    """A flight with rows that stand as its table, and their reach."""
+    return (flight, rows, reach(rows))
 
 
 def chart(flight, steps):
-    """A flight with its table and the table's reach, so that these are made but once."""
-    rows = table(flight, steps=steps)
-    return (flight, rows, reach(rows))
+    """A flight with its own table and the table's reach, so that these are made but once."""
+    return chart_of(flight, table(flight, steps=steps))
 
 
 def between(upper, lower, step):

@@ -1,4 +1,4 @@
-"""Points 4 to 12 of the document, word for word and by plain search, to look at what the program tells.
+"""Points 4 to 12 and 21 of the document, word for word and by plain search, to look at what the program tells.
 
 Nothing here is imported from the program.
 """
@@ -343,7 +343,9 @@ def is_dealing(flights, window, late, miss, paper):
     told, words, order, tables = paper
     if words not in all_words(len(flights)) or type(order) is not tuple or type(tables) is not tuple:
         return False
-    if sorted(order) != list(range(len(flights))) or len(tables) != len(flights):
+    if not all(is_number(place) for place in order) or sorted(order) != list(range(len(flights))):
+        return False
+    if len(tables) != len(flights):
         return False
     for flight, word, rows in zip(flights, words, tables):
         if not stands_by_words(dealt_by_words(flight, word, late), rows, window[1]):
@@ -386,3 +388,41 @@ def turn_about_by_words(flights, window, held, late):
     holding = [dealt_by_words(flight, "hold", held) for flight in flights]
     words, turning = best_by_words(holding, window, late)
     return ("turn", words, turning) if turning > staying else ("stay", staying)
+
+
+# Point 21.
+
+def is_window_by_words(thing):
+    return (
+        type(thing) is tuple and len(thing) == 2 and all(is_number(step) and 1 <= step <= 24 for step in thing)
+        and thing[0] <= thing[1])
+
+
+def is_miss_by_words(thing):
+    return is_number(thing) and 1 <= thing <= 1000000
+
+
+def may_be_dealt_words(flights, late):
+    if not is_number(late) or not 0 <= late <= 12 or type(flights) is not tuple or len(flights) not in (2, 3, 4):
+        return False
+    return all(
+        is_flight_by_words(flight) and len(flight[3][1]) <= 2 and all(limit <= late for word, limit in flight[3][1])
+        for flight in flights)
+
+
+def holds_by_words(claim, paper):
+    if type(claim) is not tuple or len(claim) != 5:
+        return False
+    if claim[0] in ("parted", "met"):
+        name, upper, lower, window, miss = claim
+        fits = is_kept if name == "parted" else is_broken
+        return (
+            is_flight_by_words(upper) and is_flight_by_words(lower) and is_window_by_words(window)
+            and is_miss_by_words(miss) and fits(upper, lower, window, miss, paper))
+    if claim[0] in ("parting", "no parting"):
+        name, flights, window, late, miss = claim
+        fits = is_dealing if name == "parting" else is_no_dealing
+        return (
+            may_be_dealt_words(flights, late) and is_window_by_words(window) and is_miss_by_words(miss)
+            and fits(flights, window, late, miss, paper))
+    return False

@@ -6,7 +6,7 @@ import unittest
 
 from climborsink.chief import Chief, Follower
 from climborsink.errors import NotAgreed, NoWords
-from tests.chief_book import PHASES, ChiefBook, FollowerBook
+from tests.books import PHASES, ChiefBook, FollowerBook
 from tests.oracle import DEALT_WORDS, FOUR_WORDS, all_words
 from tests.things import OTHER_THINGS, WHOLE_NUMBERS, nested, put_otherwise
 

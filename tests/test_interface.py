@@ -1,10 +1,10 @@
-"""The interface: names, arguments and their defaults, as far as they have been built."""
+"""The interface: names, arguments and their defaults."""
 
 import importlib
 import inspect
 import unittest
 
-from climborsink import courses, dealing, pairs, tables
+from climborsink import chief, courses, dealing, logs, pairs, post, sky, tables, turning
 
 FUNCTIONS = {
     "makes": ("is_make(thing)", "may_go(make, word, rate, other)", "rates_from(make, word, rate)"),
@@ -20,6 +20,8 @@ FUNCTIONS = {
         "best(flights, *, window, late=2)", "order_of(flights, words, *, window, late=2)",
         "parting(flights, *, window, late=2, miss=1)"),
     "turning": ("turn_about(flights, *, window, held=2, late=4)",),
+    "looker": ("holds(claim, paper)",),
+    "logs": ("log_stands(makes, heights, rates, thing)",),
 }
 
 # Each class with the arguments that make it and its methods; its own ones, not those of a class above.
@@ -33,6 +35,14 @@ CLASSES = {
             "turn(self)", "phase(self)", "word(self)", "agreed(self)", "deal(self, words)", "ask(self)",
             "clear(self)", "letters(self)", "hear(self, letter)"),
         "Follower(place)": ("turn(self)", "word(self)", "hear(self, letter)")},
+    "sky": {
+        "Sky(makes, heights, rates)": (
+            "deal(self, words)", "ask(self)", "clear(self)", "send(self)", "carry(self, number)", "lose(self, number)",
+            "double(self, number)", "move(self, rates)", "move_by(self, asked)", "is_busy(self)", "notes(self)",
+            "step(self)", "heights(self)", "rates(self)", "words(self)", "turns(self)", "flights(self)", "phase(self)",
+            "agreed(self)", "under_way(self)", "log(self)", "deed(self, at=-1)", "__eq__(self, other)",
+            "__len__(self)", "__str__(self)", "__repr__(self)")},
+    "desk": {"Desk(makes, heights, rates)": ("say(self, row)",)},
 }
 
 VALUES = {
@@ -86,6 +96,22 @@ class Interface(unittest.TestCase):
         self.assertEqual(dealing.best(level, window=(1, 3), late=14)[1], 1)
         self.assertEqual(dealing.parting(level, window=(1, 3), late=14, miss=0)[0], "dealt")
         self.assertEqual(dealing.parting((flight, flight), window=(1, 3), late=14, miss=-1000)[0], "dealt")
+        self.assertEqual(turning.turn_about(level, window=(1, 26), held=13, late=14), ("stay", 1))
+        self.assertEqual(turning.turn_about((flight, flight), window=(1, 3), held=4, late=3)[0], "stay")
+
+    def test_no_error_somewhat_beyond_the_bounds_of_deeds_and_craft(self):
+        head, other = chief.Chief(6), chief.Follower(5)
+        head.deal(("hold",) * 6)
+        self.assertEqual(other.hear(head.letters()[-1]), ("got", 5, 1))
+        self.assertIs(head.hear(("got", 5, 1)), True)
+        self.assertEqual(other.hear(("tell", 5, 10 ** 12, "sink")), ("got", 5, 10 ** 12))
+        box, parts = post.Post(), (((1, 1, 1, 1),) * 2, (0, 0), (0, 0))
+        above = sky.Sky(*parts)
+        for deed in range(1200):
+            self.assertEqual(box.send(()), deed)
+            above.send()
+        self.assertEqual((len(box), len(above)), (1200, 1200))
+        self.assertIs(logs.log_stands(*parts, above.log()), True)
 
 
 if __name__ == "__main__":

@@ -2,8 +2,8 @@
 
 import unittest
 
-from climborsink.kinds import is_text, is_tuple_of, is_whole, is_whole_within, own_copy
-from tests.things import OTHER_THINGS, WHOLE_NUMBERS
+from climborsink.kinds import is_same, is_text, is_tuple_of, is_whole, is_whole_within, own_copy
+from tests.things import OTHER_THINGS, WHOLE_NUMBERS, put_otherwise
 
 
 class Kinds(unittest.TestCase):
@@ -39,6 +39,13 @@ class Kinds(unittest.TestCase):
         inner.append(2)
         thing.append(3)
         self.assertEqual(copied, [[1], (([1],), [[1]])])
+
+    def test_the_same_in_all_its_parts(self):
+        told = ("double", 0, (1, ("climb", 2), ()))
+        self.assertIs(is_same(told, ("double", 0, (1, ("climb", 2), ()))), True)
+        for thing in OTHER_THINGS + WHOLE_NUMBERS:
+            for bent in put_otherwise(told, thing):
+                self.assertIs(is_same(told, bent), repr(told) == repr(bent), bent)
 
 
 if __name__ == "__main__":

@@ -5,25 +5,11 @@ import unittest
 
 from climborsink.errors import NoLetter
 from climborsink.post import Post
+from tests.books import LetterBook
 from tests.things import OTHER_THINGS, WHOLE_NUMBERS
 
 LETTERS = (
     (), ("tell", 1, 2, "climb"), ("got", 1, 2), (0,), ("",), (-999999999, "a" * 400), (1, "1"), ("tell", 3, 0, "free"))
-
-
-class Book:
-    """A plain book of letters: all that ever came, and which of them are gone."""
-
-    def __init__(self):
-        self.came = []
-        self.gone = set()
-
-    def here(self):
-        return [number for number in range(len(self.came)) if number not in self.gone]
-
-    def enter(self, letter):
-        self.came.append(letter)
-        return len(self.came) - 1
 
 
 def told_by(post):
@@ -35,7 +21,7 @@ class PostTest(unittest.TestCase):
         under_way = post.under_way()
         self.assertIs(type(under_way), tuple)
         self.assertTrue(all(type(part) is tuple for part in under_way))
-        self.assertEqual(under_way, tuple((number, book.came[number]) for number in book.here()))
+        self.assertEqual(under_way, book.under_way())
         self.assertEqual(len(post), len(book.here()))
         self.assertIs(bool(post), len(book.here()) > 0)
 
@@ -64,19 +50,19 @@ class PostTest(unittest.TestCase):
             book.gone.add(number)
 
     def test_a_new_post(self):
-        self.look(Post(), Book())
+        self.look(Post(), LetterBook())
         self.assertEqual(Post().under_way(), ())
         self.assertIs(bool(Post()), False)
 
     def test_deeds_in_any_order_against_a_plain_book(self):
         for seed in range(30):
-            chance, post, book = random.Random(seed), Post(), Book()
+            chance, post, book = random.Random(seed), Post(), LetterBook()
             for deed in range(80):
                 self.do_one(chance, post, book)
                 self.look(post, book)
 
     def test_a_thousand_deeds(self):
-        chance, post, book = random.Random(71), Post(), Book()
+        chance, post, book = random.Random(71), Post(), LetterBook()
         for deed in range(1000):
             self.do_one(chance, post, book)
         self.look(post, book)
@@ -228,7 +214,7 @@ class PostTest(unittest.TestCase):
 
     def test_two_posts_told_by_turns(self):
         chance = random.Random(72)
-        posts, books = (Post(), Post()), (Book(), Book())
+        posts, books = (Post(), Post()), (LetterBook(), LetterBook())
         for deed in range(120):
             at = chance.randrange(2)
             self.do_one(chance, posts[at], books[at])
